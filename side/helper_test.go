@@ -345,17 +345,21 @@ func sidesOf(packing []int) int {
 // isPossiblePacking tries all orders of the tracks of each side.
 func isPossiblePacking(f api.Format, l []api.Track, packing []int) bool {
 	for s := range sidesOf(packing) {
-		var tracks []int
-		for i, x := range packing {
-			if x == s {
-				tracks = append(tracks, i)
-			}
-		}
-		if !hasOrder(f, l, tracks) {
+		if !hasOrder(f, l, tracksOn(s, packing)) {
 			return false
 		}
 	}
 	return true
+}
+
+func tracksOn(s int, packing []int) []int {
+	var tracks []int
+	for i, x := range packing {
+		if x == s {
+			tracks = append(tracks, i)
+		}
+	}
+	return tracks
 }
 
 func wantedPack(f api.Format, l []api.Track) ([]int, int, api.Errno) {

@@ -174,13 +174,7 @@ func TestPackOfEight(t *testing.T) {
 // usuallyPossible lays each side in the usual order, which is possible if any order is.
 func usuallyPossible(f api.Format, l []api.Track, packing []int) bool {
 	for s := range sidesOf(packing) {
-		var tracks []int
-		for i, x := range packing {
-			if x == s {
-				tracks = append(tracks, i)
-			}
-		}
-		if !isPossible(f, l, wantedUsual(l, tracks)) {
+		if !isPossible(f, l, wantedUsual(l, tracksOn(s, packing))) {
 			return false
 		}
 	}
