@@ -7,7 +7,7 @@ import (
 	"deadwax/api"
 )
 
-// course is the outermost cut of the first points of a side, and by which step each radius is held where it is. If a point does not fit behind those before it, there is a proof, and fits is how many there are before it.
+// course is the outermost cut of the first points of a side, and by which step each radius is held where it is; how many points fit; and a proof that the next one does not, if there is one.
 type course struct {
 	side
 	radii []int64
@@ -18,7 +18,7 @@ type course struct {
 
 // follow adds the points of a side one by one.
 //
-// The last sample on a circle of edges is left by CutFast, which goes back one sample at a time, and so through all samples down to the one from which the circle comes to its last one: that before it, by CutSlow, or that of the turn before, by CutLand. As Slow is at most Fast, only the latter can have a sum below 0. Where there are none of these, no more edges than those that go straight back from the new sample can ask for anything of the ones before it.
+// The last sample on a circle of edges is left by CutFast, which goes back one sample at a time, and so through all samples down to the one from which the circle comes to its last one: that before it, by CutSlow, or that of the turn before, by CutLand. As Slow is at most Fast, only the latter can have a sum below 0. Where there are no such circles, a new sample moves those before it only by the edges that go straight back from it.
 func follow(s side) course {
 	c := course{side: s, fits: len(s.points)}
 points:

@@ -100,6 +100,8 @@ func TestCheckRefusal(t *testing.T) {
 		"fast at 0":                    {steps([2]int{fast, 0}, [2]int{land, 1}), api.ErrSum},
 		"a sample behind the last one": {steps([2]int{land, 4}, [2]int{fast, 4}, [2]int{fast, 3}), api.ErrSum},
 		"a sample before the first":    {steps([2]int{rim, -1}, [2]int{core, -1}), api.ErrSum},
+		"a circle and a sample -1":     {steps([2]int{land, 2}, [2]int{fast, 2}, [2]int{fast, 1}, [2]int{slow, -1}), api.ErrSum},
+		"a circle and a sample 4":      {steps([2]int{land, 2}, [2]int{fast, 2}, [2]int{fast, 1}, [2]int{rim, 4}), api.ErrSum},
 		"the rule 0":                   {steps([2]int{rim, 0}, [2]int{land, 2}, [2]int{0, 2}, [2]int{core, 2}), api.ErrSum},
 		"the rule 6":                   {steps([2]int{6, 2}), api.ErrSum},
 		"the rule -1":                  {steps([2]int{-1, 2}), api.ErrSum},
