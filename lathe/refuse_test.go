@@ -236,7 +236,10 @@ func TestLongProofs(t *testing.T) {
 	r := rand.New(rand.NewSource(64))
 	for range 300 {
 		b := api.Blank{Per: upTo(r, 1, 40), Rim: api.MaxRadius, Land: upTo(r, 0, api.MaxLand), Fast: upTo(r, 0, api.MaxInward)}
-		if l := wild(r, 100); fits(t, b, l) < len(l) {
+		l := wild(r, 100)
+		n := fits(t, b, l)
+		checkBroken(t, "what fits of edges of any size", b, l[:n], outermost(t, b, l[:n]), 0, 0)
+		if n < len(l) {
 			refuse(t, b, l)
 		}
 	}
